@@ -1,4 +1,4 @@
-package fast
+package ahead
 
 import (
 	"flagon/api"
@@ -7,25 +7,6 @@ import (
 	"flagon/lower"
 	"flagon/mem"
 )
-
-// purse is what is counted: the fuel that is left, and what was paid of it.
-type purse struct {
-	left, paid int64
-}
-
-// pay: is there so much left? Then it is paid.
-func (p *purse) pay(cost int) bool {
-	if p.left < int64(cost) {
-		return false
-	}
-	p.left, p.paid = p.left-int64(cost), p.paid+int64(cost)
-	return true
-}
-
-// back gives back so much of what was paid.
-func (p *purse) back(cost int) {
-	p.left, p.paid = p.left+int64(cost), p.paid-int64(cost)
-}
 
 // engine is a state that goes on in place. The state's pages are the memory's meanwhile, its replies the host's, and what it has used is added at the end.
 type engine struct {
@@ -64,9 +45,9 @@ func (n *engine) run() {
 run:
 	for {
 		rest := n.lines[n.Pc].Left
-		ahead := n.pay(rest)
+		whole := n.begin(rest)
 		for ; rest > 0; rest-- {
-			if !ahead && !n.pay(1) {
+			if !whole && !n.pay(1) {
 				break run
 			}
 			x := &n.lines[n.Pc]
@@ -75,7 +56,7 @@ run:
 			if !n.ended() {
 				continue
 			}
-			if ahead { // the others of the segment are not executed
+			if whole { // the others of the segment are not executed
 				n.back(rest - 1)
 			}
 			break run
@@ -91,7 +72,7 @@ func (n *engine) ended() bool {
 // told: the state in which it stands. It is handed out, so the engine goes on no more.
 func (n *engine) told() api.State {
 	n.state.Pages, n.state.Replies = n.memory.Pages(), n.host.Taken()
-	n.state.Used += min(n.paid, api.MaxUsed-n.state.Used)
+	n.state.Used += min(n.spent(), api.MaxUsed-n.state.Used)
 	return n.state
 }
 

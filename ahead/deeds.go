@@ -1,4 +1,4 @@
-package fast
+package ahead
 
 import (
 	"flagon/api"
