@@ -1,4 +1,4 @@
-package step
+package walk
 
 import (
 	"flagon/api"
@@ -46,6 +46,12 @@ func (r *run) ended() bool {
 func (r *run) told() api.State {
 	r.state.Pages, r.state.Replies = r.memory.Pages(), r.host.Taken()
 	return r.state
+}
+
+// place: that of the instruction which the next step executes.
+func (r *run) place() Place {
+	f := r.last()
+	return Place{Depth: len(r.state.Frames) - 1, Function: f.Function, Pc: f.Pc}
 }
 
 // step executes the instruction at the last frame's pc.

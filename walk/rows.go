@@ -1,4 +1,4 @@
-package step
+package walk
 
 import (
 	"flagon/api"
