@@ -1,4 +1,4 @@
-// Package walk makes the steps of a run, and lets each one's place be seen: layer 16 tells the states that they come to, layer 26 the places, too. See shared/doc/16-step.md and shared/doc/26-trace.md.
+// Package walk makes the steps of a run, and lets each one's place be seen: layer 16 tells the states that they come to, layers 26 and 27 ask for the places, too. See shared/doc/16-step.md, shared/doc/26-trace.md and shared/doc/27-profile.md.
 package walk
 
 import "flagon/api"
