@@ -67,24 +67,24 @@ const (
 var widths = [...]int{1, 1, 2, 2, 4, 8, 1, 2, 4, 8}
 
 // do does what x does in the frame that runs; or it tells the trap, and then has changed nothing but that frame, which is gone, and the replies that were taken.
-func (r *run) do(f *api.Frame, x api.Ins) (trap int8) {
+func (w *Walk) do(f *api.Frame, x api.Ins) (trap int8) {
 	var top uint64
 	switch op := x.Op; {
 	case op <= opHost:
-		return r.flow(f, x)
+		return w.flow(f, x)
 	case op <= opGset:
-		r.hold(f, x)
+		w.hold(f, x)
 	case op <= opConstL:
 		push(f, constant(x))
 	case op >= opStore8 && op <= opStoreL:
 		top = pop(f)
 		fallthrough
 	case op <= opLoadL:
-		trap = r.move(f, x, top)
+		trap = w.move(f, x, top)
 	case op == opSize:
-		push(f, uint64(r.memory.Size()))
+		push(f, uint64(w.memory.Size()))
 	case op == opGrow:
-		push(f, uint64(uint32(r.memory.Grow(pop(f)))))
+		push(f, uint64(uint32(w.memory.Grow(pop(f)))))
 	case op >= opEqW && op <= opLeuW, op >= opAddW && op <= opRotrW, op >= opEqL && op <= opLeuL, op >= opAddL && op <= opRotrL:
 		top = pop(f)
 		fallthrough
@@ -98,20 +98,20 @@ func (r *run) do(f *api.Frame, x api.Ins) (trap int8) {
 }
 
 // flow does what an instruction does that says itself where it goes on.
-func (r *run) flow(f *api.Frame, x api.Ins) (trap int8) {
+func (w *Walk) flow(f *api.Frame, x api.Ins) (trap int8) {
 	switch x.Op {
 	case opTrap:
 		return api.TrapOp
 	case opIf:
 		if pop(f) == 0 {
-			f.Pc = otherwise(r.tables[f.Function], f.Pc)
+			f.Pc = otherwise(w.tables[f.Function], f.Pc)
 			break
 		}
 		fallthrough
 	case opNop, opBlock, opLoop:
 		f.Pc++
 	case opElse:
-		f.Pc = r.tables[f.Function].Ends[f.Pc]
+		f.Pc = w.tables[f.Function].Ends[f.Pc]
 	case opBrif:
 		if pop(f) == 0 {
 			f.Pc++
@@ -119,22 +119,22 @@ func (r *run) flow(f *api.Frame, x api.Ins) (trap int8) {
 		}
 		fallthrough
 	case opBr:
-		r.branch(f, x.A)
+		w.branch(f, x.A)
 	case opBrtable:
 		at := min(pop(f), uint64(len(x.L)-1))
-		r.branch(f, int64(x.L[at]))
+		w.branch(f, int64(x.L[at]))
 	case opEnd:
-		if f.Pc+1 < len(r.module.Functions[f.Function].Code) { // an opener's: the body's is the last instruction
+		if f.Pc+1 < len(w.module.Functions[f.Function].Code) { // an opener's: the body's is the last instruction
 			f.Pc++
 			break
 		}
 		fallthrough
 	case opReturn:
-		r.leave(f)
+		w.leave(f)
 	case opCall:
-		return r.call(f, int(x.A))
+		return w.call(f, int(x.A))
 	case opHost:
-		return r.ask(f, int(x.A))
+		return w.ask(f, int(x.A))
 	}
 	return api.TrapNone
 }
@@ -148,7 +148,7 @@ func otherwise(t api.Table, pc int) int {
 }
 
 // hold does what an instruction does to values that are held: on the stack, in locals, in globals.
-func (r *run) hold(f *api.Frame, x api.Ins) {
+func (w *Walk) hold(f *api.Frame, x api.Ins) {
 	switch x.Op {
 	case opDrop:
 		pop(f)
@@ -165,9 +165,9 @@ func (r *run) hold(f *api.Frame, x api.Ins) {
 	case opSet:
 		f.Locals[x.A] = pop(f)
 	case opGget:
-		push(f, r.state.Globals[x.A])
+		push(f, w.state.Globals[x.A])
 	case opGset:
-		r.state.Globals[x.A] = pop(f)
+		w.state.Globals[x.A] = pop(f)
 	}
 }
 
@@ -180,15 +180,15 @@ func constant(x api.Ins) uint64 {
 }
 
 // move does a load, or a store of v. Address and offset are numbers of 32 bits each, so that both together do not go round.
-func (r *run) move(f *api.Frame, x api.Ins, v uint64) int8 {
+func (w *Walk) move(f *api.Frame, x api.Ins, v uint64) int8 {
 	addr, n := pop(f)+uint64(x.A), widths[x.Op-opLoad8u]
 	if x.Op >= opStore8 {
-		if !r.memory.Store(addr, n, v) {
+		if !w.memory.Store(addr, n, v) {
 			return api.TrapMemory
 		}
 		return api.TrapNone
 	}
-	v, ok := r.memory.Load(addr, n)
+	v, ok := w.memory.Load(addr, n)
 	if !ok {
 		return api.TrapMemory
 	}
